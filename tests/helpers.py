@@ -1,7 +1,7 @@
 """What the tests share: lines of calls, and a lone side with segments made by hand for it."""
 
 from twosidesyard import calls
-from twosidesyard.link import answers
+from twosidesyard.link import Link, answer_to, answers, call_at
 from twosidesyard.side import Side
 
 BEGIN, END, ACKED, RESET = 1, 2, 4, 8
@@ -42,6 +42,30 @@ def keep(side, now, time):
     return [7, side, now, time]
 
 
+def due(side):
+    return [8, side]
+
+
+def told(side):
+    return [9, side]
+
+
+def sent(i):
+    return [10, i]
+
+
+def bring(i, now):
+    return [11, i, now]
+
+
+def damage(i, now, place, byte):
+    return [12, i, now, place, byte]
+
+
+def cut(i, now, n):
+    return [13, i, now, n]
+
+
 def rush(now):
     return [14, now]
 
@@ -59,6 +83,30 @@ def ask(*line):
 
 def last(*line):
     return ask(*line)[-1]
+
+
+def told_of(side, names, *line):
+    """What a side tells behind a line of calls, of the numbers with these names."""
+    answer = last(*line, told(side))
+    assert len(answer) == 18 and answer[0] == 0, answer
+    by_name = dict(zip(TOLD, answer[1:]))
+    return [by_name[name] for name in names.split()]
+
+
+def on_the_link(*line):
+    """Behind a line of calls all that's on the link: by which side, whether it came, its bytes."""
+    count = last(*line, told(0))[-1]
+    given = ask(*line, *[sent(i) for i in range(count)])[len(line):]
+    assert all(one[0] == 0 and one[3] == len(one[4:]) for one in given)
+    return [(one[1], one[2], one[4:]) for one in given]
+
+
+def segments(*line):
+    """The segments on the link behind a line of calls, by name, with the side that sent them."""
+    each = []
+    for sender, came, octets in on_the_link(*line):
+        each.append(dict(decode(octets), sender=sender, came=came))
+    return each
 
 
 def stuff(size, start=0):
@@ -105,6 +153,19 @@ def decode(octets):
         "ranges": [(number(k, 4), number(k + 4, 4)) for k in range(20, behind, 8)],
         "data": octets[behind:],
     }
+
+
+class Running:
+    """A line of calls that goes on call by call, so that the next one can hang on what was answered."""
+
+    def __init__(self):
+        self.link = Link()
+
+    def ask(self, call):
+        return answer_to(self.link, call_at(call, 0))
+
+    def told(self, side, name):
+        return dict(zip(TOLD, self.ask(told(side))[1:]))[name]
 
 
 class Lone:

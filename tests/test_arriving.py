@@ -3,7 +3,7 @@
 import unittest
 
 from tests.helpers import (
-    ACKED, BEGIN, END, LEFT, LEFT_PORT, RESET, RIGHT, RIGHT_PORT, Lone, decode, encode, opened, places, stuff,
+    ACKED, BEGIN, END, LEFT, LEFT_PORT, RESET, RIGHT, RIGHT_PORT, Lone, decode, encode, opened, stuff,
 )
 from twosidesyard import calls
 from twosidesyard.side import Side

@@ -152,8 +152,9 @@ class WriteAndRead(unittest.TestCase):
         self.assertEqual(lone.call("read", 0, 1400), ([1400] + stuff(1400), []))
 
     def test_times_that_may_not_be(self):
+        named = (("write", [[1]]), ("read", [1]), ("close", []), ("reset", []), ("tick", []), ("keep", [1]))
         for now in (-1, TIME_END + 1):
-            for name, rest in (("write", [[1]]), ("read", [1]), ("close", []), ("reset", []), ("tick", []), ("keep", [1])):
+            for name, rest in named:
                 self.assertEqual(opened().call(name, now, *rest), ([-1], []))
         self.assertEqual(opened().call("keep", 0, -1), ([-1], []))
 

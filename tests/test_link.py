@@ -3,11 +3,10 @@
 import unittest
 
 from tests.helpers import (
-    LEFT, RIGHT, TIME_END, ask, close, encode, keep, last, meet, read, reset, rush, stuff, tick, write,
+    LEFT, RIGHT, TIME_END, ask, bring, close, cut, damage, due, encode, keep, last, meet, on_the_link, read, reset,
+    rush, sent, stuff, tick, told, told_of, write,
 )
-from twosidesyard.link import Link, UnknownCall, answers
-from twosidesyard.link import meet as link_meet
-from twosidesyard.link import rush as link_rush
+from twosidesyard.link import UnknownCall, answers
 
 MOST = 2 ** 64 - 1
 MET = (meet(0, 0, 0), rush(0))
@@ -22,7 +21,8 @@ class Interface(unittest.TestCase):
         self.assertEqual(answers(line), [2, 0, 1, 2, 3, 1, 2, 4, 4, 5, 3, 9, 8, 7, 4, 1, -1])
 
     def test_what_is_handed_in_stays_and_nothing_is_kept(self):
-        line = meet(1, 2, 3) + write(0, 4, stuff(3000)) + rush(5) + read(1, 6, 2000) + close(0, 7) + rush(8)
+        line = meet(1, 2, 3) + write(0, 4, stuff(3000)) + rush(5) + read(1, 6, 2000) + close(0, 7) + sent(3)
+        line += damage(3, 7, 5, 1) + cut(3, 7, 30) + bring(3, 7) + told(0) + due(1) + rush(8) + reset(1, 9) + tick(0, 9)
         handed_in = list(line)
         given = answers(handed_in)
         self.assertEqual(handed_in, line)
@@ -31,12 +31,13 @@ class Interface(unittest.TestCase):
         self.assertEqual(answers(read(1, 6, 2000)), [2, -4, 0])
 
     def test_answers_are_whole_numbers(self):
-        given = answers(meet(1, 2, 3) + write(0, 4, [1]) + close(0, 4) + rush(5) + read(1, 6, 9) + keep(1, 7, 8))
+        line = meet(1, 2, 3) + write(0, 4, [1]) + close(0, 4) + rush(5) + read(1, 6, 9) + keep(1, 7, 8) + told(1)
+        given = answers(line + sent(0) + sent(1) + due(0) + bring(0, 8) + damage(0, 8, 0, 0) + cut(0, 8, 0))
         self.assertEqual({type(number) for number in given}, {int})
         self.assertIs(type(given), list)
 
     def test_a_number_that_is_no_call(self):
-        for number in (0, 15):
+        for number in (0, 15, 2 ** 64 - 1):
             with self.assertRaises(UnknownCall):
                 answers([number, 0, 0, 0])
 
@@ -54,7 +55,13 @@ class BeforeMeet(unittest.TestCase):
             self.assertEqual(last(reset(side, 0)), [-4, 0])
             self.assertEqual(last(tick(side, 0)), [0, 0])
             self.assertEqual(last(keep(side, 0, 1)), [0, 0])
+            self.assertEqual(last(due(side)), [0, 0])
+            self.assertEqual(last(told(side)), [0, 0, 0, 0, 0, 0, 0, 0, 0, 5600, 1048576, 1000, 0, 0, 0, 0, 0, 0])
         self.assertEqual(last(rush(0)), [0, 0])
+
+    def test_nothing_was_sent(self):
+        for call in (sent(0), bring(0, 0), damage(0, 0, 0, 0), cut(0, 0, 0)):
+            self.assertEqual(last(call), [-2])
 
 
 class Refusals(unittest.TestCase):
@@ -66,8 +73,9 @@ class Refusals(unittest.TestCase):
 
     def test_a_side_that_is_neither_stands_alone(self):
         for side in (2, 3, MOST):
-            for call in self.calls_of(side, 0):
+            for call in self.calls_of(side, 0) + [due(side), told(side)]:
                 self.assertEqual(last(*MET, call), [-1])
+                self.assertEqual(last(call), [-1])
 
     def test_the_side_comes_ahead_of_the_time(self):
         for call in self.calls_of(2, TIME_END + 1) + [keep(2, 0, 2 ** 31 + 1)]:
@@ -109,13 +117,10 @@ class Meet(unittest.TestCase):
         self.assertEqual(last(meet(7, 9, 0), write(1, 0, [1])), [-4, 1])
 
     def test_addresses_and_ports(self):
-        link = Link()
-        self.assertEqual(link_meet(link, 11, 22, 0), [0, 1])
-        self.assertEqual(link_rush(link, 0), [3, 3])
         begin = encode((1024, 7), 11, 0, 1, 1024, [], [], LEFT, RIGHT)
         answer = encode((7, 1024), 22, 12, 5, 1024, [], [], RIGHT, LEFT)
         ack = encode((1024, 7), 12, 23, 4, 1024, [], [], LEFT, RIGHT)
-        self.assertEqual([(one.sender, one.octets) for one in link.carried], [(0, begin), (1, answer), (0, ack)])
+        self.assertEqual(on_the_link(meet(11, 22, 0), rush(0)), [(0, 1, begin), (1, 1, answer), (0, 1, ack)])
 
     def test_bases_and_times_at_their_ends(self):
         top = 2 ** 32 - 1
@@ -361,30 +366,104 @@ class Keep(unittest.TestCase):
         self.assertEqual(last(*MET, keep(0, 0, 5), write(0, 0, [1]), tick(0, 199)), [0, 4])
 
 
-class Rush(unittest.TestCase):
-    def test_what_is_sent_thereby_comes_too(self):
-        self.assertEqual(ask(meet(3, 4, 0), rush(0), rush(0))[1:], [[3, 3], [0, 3]])
+class Due(unittest.TestCase):
+    LINGERING = (*MET, close(0, 0), rush(0), close(1, 5), rush(7))
 
-    def test_times_at_their_end(self):
-        self.assertEqual(last(meet(0, 0, TIME_END), rush(TIME_END)), [3, 3])
-        self.assertEqual(last(meet(0, 0, 0), rush(TIME_END + 1)), [-1])
-        self.assertEqual(last(rush(MOST)), [-1])
-        self.assertEqual(ask(meet(0, 0, 0), rush(MOST), rush(0))[1:], [[-1], [3, 3]])
+    def test_nothing_is_due(self):
+        for line in ((), (meet(0, 0, 0),), MET, (*MET, reset(1, 0)), (*MET, keep(1, 5, 0)), (*MET, tick(1, 10 ** 6))):
+            self.assertEqual(last(*line, due(1))[0], 0)
+            self.assertEqual(len(last(*line, due(1))), 2)
+        self.assertEqual(last(*MET, due(0)), [0, 3])
 
-    def test_what_comes_to_a_side_that_is_over_has_come(self):
-        self.assertEqual(ask(meet(0, 0, 0), reset(1, 0), rush(0), rush(0))[2:], [[1, 1], [0, 1]])
+    def test_a_begin_and_its_answer(self):
+        self.assertEqual(last(meet(0, 0, 7), due(0)), [1, 1007, 1])
+        self.assertEqual(last(meet(0, 0, 7), bring(0, 30), due(1)), [1, 1030, 2])
+        self.assertEqual(last(meet(0, 0, 7), bring(0, 30), bring(1, 31), due(0)), [0, 3])
+        self.assertEqual(last(meet(0, 0, 7), tick(0, 1007), due(0)), [1, 3007, 2])
 
-    def test_1000_at_most_the_first_first(self):
-        # Each keeping but the first asks once, for its time has come by then; each asking gets an ack.
-        line = [*MET] + [keep(0, 2 * k, 1) for k in range(700)]
-        self.assertEqual(ask(*line)[-1], [0, 702])
-        self.assertEqual(ask(*line, rush(0), rush(0), rush(0))[-3:], [[1000, 1401], [398, 1401], [0, 1401]])
+    def test_lingering(self):
+        self.assertEqual(told_of(0, "phase why", *self.LINGERING), [5, 0])
+        self.assertEqual(last(*self.LINGERING, due(0)), [1, 60007, 7])
+        self.assertEqual(last(*self.LINGERING, due(1)), [0, 7])
+        self.assertEqual(last(*self.LINGERING, keep(0, 7, 10), due(0)), [1, 60007, 7])
+        self.assertEqual(last(*self.LINGERING, tick(0, 60007), due(0)), [0, 7])
 
-    def test_all_of_a_long_stream_comes(self):
-        line = (*MET, write(0, 0, stuff(15900)), close(0, 0), rush(0), read(1, 0, 20000), read(1, 0, 1))
-        given = ask(*line)
-        self.assertEqual(given[-2][:-1], [15900] + stuff(15900))
-        self.assertEqual(given[-1][0], -6)
+    def test_lingering_begins_anew_with_what_does_not_fit(self):
+        self.assertEqual(ask(*self.LINGERING, bring(5, 100), due(0))[-2:], [[0, 8], [1, 60100, 8]])
+
+    def test_an_ack_is_the_earliest(self):
+        line = (*MET, keep(0, 0, 500), write(1, 0, [1]), bring(3, 100), due(0))
+        self.assertEqual(last(*line), [1, 140, 4])
+        line = (*MET, write(0, 0, [1]), write(1, 0, [1]), bring(4, 159), due(0))
+        self.assertEqual(last(*line), [1, 199, 5])
+        self.assertEqual(last(*line, tick(0, 199), due(0)), [1, 200, 6])
+
+    def test_what_is_due_is_the_earliest(self):
+        self.assertEqual(last(*MET, write(0, 50, [1]), due(0)), [1, 250, 4])
+        self.assertEqual(last(*MET, write(0, 0, [1]), write(1, 0, [1]), bring(4, 161), due(0)), [1, 200, 5])
+        self.assertEqual(last(*MET, keep(0, 0, 100), write(0, 50, [1]), due(0)), [1, 250, 4])
+
+    def test_an_asking_is_the_earliest(self):
+        line = (*MET, keep(0, 0, 39), write(1, 0, [1]), bring(3, 20), due(0))
+        self.assertEqual(last(*line), [1, 59, 4])
+        self.assertEqual(last(*MET, keep(0, 5, 500), due(0)), [1, 505, 3])
+        self.assertEqual(last(*MET, keep(0, 5, 500), tick(0, 505), due(0)), [1, 10505, 4])
+
+    def test_a_time_that_has_gone_by(self):
+        self.assertEqual(last(*MET, keep(0, 0, 1), tick(0, 10 ** 6), due(0)), [1, 10001, 4])
+        self.assertEqual(last(meet(0, 0, TIME_END), due(0)), [1, TIME_END + 1000, 1])
+
+    def test_it_does_nothing_itself(self):
+        line = (*MET, write(0, 0, [1]))
+        self.assertEqual(ask(*line, due(0), due(0), told(0))[3:5], [[1, 200, 4]] * 2)
+        self.assertEqual(ask(*line, due(0), tick(0, 200))[4:], ask(*line, tick(0, 200))[3:])
+
+    def test_each_side_has_its_own(self):
+        self.assertEqual(ask(*MET, write(0, 0, [1]), bring(3, 9), due(0), due(1))[-2:], [[1, 200, 4], [1, 49, 4]])
+
+
+class Told(unittest.TestCase):
+    def test_both_sides_as_they_meet(self):
+        line = (meet(7, 9, 0),)
+        left = [0, 2, 0, 0, 0, 0, 1, 1, 0, 5600, 1048576, 1000, 0, 0, 0, 0, 0]
+        right = [0, 1, 0, 0, 0, 0, 0, 0, 0, 5600, 1048576, 1000, 0, 0, 0, 0, 0]
+        self.assertEqual(ask(*line, told(0), told(1))[1:], [left + [1], right + [1]])
+        right = [0, 3, 0, 0, 0, 0, 1, 1, 65537, 5600, 1048576, 1000, 1, 0, 65537, 0, 0]
+        self.assertEqual(ask(*line, bring(0, 0), told(0), told(1))[2:], [left + [2], right + [2]])
+        left = [0, 4, 0, 0, 0, 1, 1, 1, 65537, 5600, 1048576, 200, 1, 0, 65537, 0, 0]
+        right = [0, 4, 0, 0, 0, 1, 1, 1, 65537, 5601, 1048576, 200, 1, 0, 65537, 0, 0]
+        self.assertEqual(ask(*line, rush(0), told(0), told(1))[2:], [left + [3], right + [3]])
+
+    def test_while_bytes_are_on_their_way(self):
+        line = (*MET, write(0, 0, stuff(10000)), bring(3, 0), bring(5, 0))
+        left = [0, 4, 0, 10000, 10000, 1, 5601, 5601, 65537, 5600, 1048576, 200, 1, 0, 65537, 0, 0]
+        right = [0, 4, 0, 0, 0, 1, 1, 1, 65537, 5601, 1048576, 200, 1401, 1400, 65537, 1, 0]
+        self.assertEqual(ask(*line, told(0), told(1))[5:], [left + [8], right + [8]])
+        line += (rush(0),)
+        self.assertEqual(told_of(0, "unacked first next top wide", *line), [200, 9801, 10001, 10001, 11200])
+        self.assertEqual(told_of(1, "wanted unread edge pieces", *line), [10001, 10000, 65537, 0])
+        self.assertEqual(told_of(1, "wanted unread edge", *line, read(1, 0, 9000)), [10001, 1000, 74513])
+
+    def test_why_it_is_over(self):
+        over = (*MET, close(0, 0), rush(0), close(1, 0), rush(0))
+        self.assertEqual(told_of(1, "phase why ended", *over), [6, 1, 1])
+        self.assertEqual(told_of(0, "phase why ended", *over, tick(0, 60000)), [6, 1, 1])
+        self.assertEqual(told_of(1, "phase why ended", *MET, reset(0, 0), rush(0)), [6, 2, 0])
+        self.assertEqual(told_of(0, "phase why ended", *MET, reset(0, 0), rush(0)), [6, 4, 0])
+        tries = [tick(0, at) for at in (1000, 3000, 7000, 15000, 31000, 63000)]
+        self.assertEqual(told_of(0, "phase why wait", meet(0, 0, 0), *tries[:5]), [2, 0, 32000])
+        self.assertEqual(told_of(0, "phase why wait", meet(0, 0, 0), *tries), [6, 3, 32000])
+
+    def test_the_other_end_has_come(self):
+        line = (*MET, write(0, 0, [1]), close(0, 0))
+        self.assertEqual(told_of(1, "wanted ended", *line, bring(4, 0)), [1, 0])
+        self.assertEqual(told_of(1, "wanted ended", *line, bring(3, 0)), [2, 0])
+        self.assertEqual(told_of(1, "wanted ended", *line, bring(4, 0), bring(3, 0)), [3, 1])
+
+    def test_it_does_nothing_itself(self):
+        line = (*MET, write(0, 0, [1]), tick(0, 10 ** 6))
+        self.assertEqual(ask(*line, told(0), told(0))[4], ask(*line, told(0), told(0))[5])
+        self.assertEqual(last(*line, told(0), tick(0, 10 ** 6)), last(*line, tick(0, 10 ** 6)))
 
 
 if __name__ == "__main__":

@@ -50,7 +50,8 @@ class Bytes(unittest.TestCase):
         self.assertEqual(octets[16:18], [255, 254])
 
     def test_carried_out_often(self):
-        octets = segment_bytes(Segment(65535, 65535, 2 ** 32 - 1, 2 ** 32 - 1, 15, 65535, [], [255] * 1400), LEFT, RIGHT)
+        greatest = Segment(65535, 65535, 2 ** 32 - 1, 2 ** 32 - 1, 15, 65535, [], [255] * 1400)
+        octets = segment_bytes(greatest, LEFT, RIGHT)
         self.assertEqual(octets[16] * 256 + octets[17], checksum(octets, LEFT, RIGHT))
 
 

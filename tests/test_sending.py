@@ -202,6 +202,18 @@ class SentAnew(unittest.TestCase):
             self.assertEqual(lone.feed(acked=5601), [])
         self.assertEqual(places(lone.feed(acked=5601)), [5601])
 
+    def test_mending_again_begins_at_first_again(self):
+        held = [(1401, 2801), (7001, 8401)]
+        lone = self.mending(held[:1], written=20000)[0]
+        lone.feed(ranges=held[:1])
+        # What's sent anew goes beyond what was on its way when it began to mend.
+        anew = [lone.feed(ranges=held)[0]["place"] for count in range(3)]
+        self.assertEqual(anew, [2801, 4201, 5601])
+        lone.feed(acked=5601, ranges=held[1:])
+        self.assertEqual(lone.told("wide"), 2800)
+        said = [places(lone.feed(acked=5601, ranges=held[1:])) for count in range(3)]
+        self.assertEqual((said[:2], said[2][0]), ([[], []], 5601))
+
     def test_the_end_is_sent_anew_if_it_was_sent(self):
         lone = opened()
         lone.write([1, 2])
@@ -367,6 +379,14 @@ class Acked(unittest.TestCase):
         self.assertEqual(lone.told("wide"), 1048576)
         lone.feed(acked=2801)
         self.assertEqual(lone.told("wide"), 1048576)
+
+    def test_wide_grows_by_1_where_it_is_widest(self):
+        lone = opened()
+        lone.side.sending.wide = 1000000
+        lone.side.sending.slow = 2800
+        lone.write(stuff(1400))
+        lone.feed(acked=1401)
+        self.assertEqual(lone.told("wide"), 1000001)
 
     def test_ranges_above_what_is_acked_up_to_top_are_held(self):
         lone = opened()

@@ -3,6 +3,7 @@
 from twosidesyard.calls import (
     came,
     close,
+    due,
     is_base,
     is_time,
     keep,
@@ -10,6 +11,7 @@ from twosidesyard.calls import (
     read,
     reset,
     tick,
+    told,
     wait_side,
     write,
 )
@@ -27,10 +29,16 @@ READ = 3
 CLOSE = 4
 RESET = 5
 TICK = 6
+KEEP = 7
+DUE = 8
+SENT = 10
+BRING = 11
+DAMAGE = 12
+CUT = 13
 RUSH = 14
 
 # How many whole numbers stand behind a call's own number, ahead of its row if it has one.
-NUMBERS_OF = {1: 3, 2: 2, 3: 3, 4: 2, 5: 2, 6: 2, 7: 3, 14: 1}
+NUMBERS_OF = {1: 3, 2: 2, 3: 3, 4: 2, 5: 2, 6: 2, 7: 3, 8: 1, 9: 1, 10: 1, 11: 2, 12: 4, 13: 3, 14: 1}
 
 
 class UnknownCall(ValueError):
@@ -48,15 +56,16 @@ class Call:
 
 
 class Carried:
-    """What's on the link: by which side it was sent, and its bytes."""
+    """What's on the link: by which side it was sent, its bytes, and whether it ever came."""
 
     def __init__(self, sender, octets):
         self.sender = sender
         self.octets = octets
+        self.has_come = False
 
 
 class Link:
-    """Two sides and all that they ever sent; so many of these, the first ones, have come."""
+    """Two sides and all that they ever sent; what stands there ahead of looked_at has come."""
 
     def __init__(self):
         begin_anew(self)
@@ -65,7 +74,7 @@ class Link:
 def begin_anew(link):
     link.sides = [Side(), Side()]
     link.carried = []
-    link.have_come = 0
+    link.looked_at = 0
 
 
 def collect(link, which):
@@ -86,12 +95,13 @@ def meet(link, base, base_right, now):
     return [0, len(link.carried)]
 
 
-def bring_next(link, now):
-    carried = link.carried[link.have_come]
-    link.have_come += 1
+def deliver(link, carried, now, octets):
+    """Brings these bytes to the other side, in the place of what was sent; gives back its answer."""
+    carried.has_come = True
     which = LEFT if carried.sender == RIGHT else RIGHT
-    came(link.sides[which], ADDRESSES[carried.sender], now, carried.octets)
+    answer = came(link.sides[which], ADDRESSES[carried.sender], now, octets)
     collect(link, which)
+    return answer
 
 
 def rush(link, now):
@@ -99,25 +109,65 @@ def rush(link, now):
         return [-1]
     brought = 0
     # What's sent thereby comes too, so how many are left is asked anew each time.
-    while link.have_come < len(link.carried) and brought < MOST_RUSHED:
-        bring_next(link, now)
-        brought += 1
+    while link.looked_at < len(link.carried) and brought < MOST_RUSHED:
+        carried = link.carried[link.looked_at]
+        link.looked_at += 1
+        if not carried.has_come:
+            deliver(link, carried, now, carried.octets)
+            brought += 1
     return [brought, len(link.carried)]
 
 
-def side_answer(side, call):
+def sent(carried):
+    return [0, carried.sender, 1 if carried.has_come else 0, len(carried.octets)] + carried.octets
+
+
+def damaged(octets, place, octet):
+    if place >= len(octets):
+        return octets
+    return octets[:place] + [octet % 256] + octets[place + 1:]
+
+
+def arriving_bytes(call, octets):
+    """What comes of a segment's bytes: all as they are, with one changed, or only the first ones."""
+    if call.kind == DAMAGE:
+        return damaged(octets, call.numbers[2], call.numbers[3])
+    if call.kind == CUT:
+        return octets[:call.numbers[2]]
+    return octets
+
+
+def segment_answer(link, call):
+    """The answer to a call that's about one segment on the link."""
+    if call.numbers[0] >= len(link.carried):
+        return [-2]
+    carried = link.carried[call.numbers[0]]
+    if call.kind == SENT:
+        return sent(carried)
     now = call.numbers[1]
-    if call.kind == WRITE:
-        return write(side, now, call.row)
-    if call.kind == READ:
-        return read(side, now, call.numbers[2])
-    if call.kind == CLOSE:
-        return close(side, now)
-    if call.kind == RESET:
-        return reset(side, now)
-    if call.kind == TICK:
-        return tick(side, now)
-    return keep(side, now, call.numbers[2])
+    if not is_time(now):
+        return [-1]
+    answer = deliver(link, carried, now, arriving_bytes(call, carried.octets))
+    return answer + [len(link.carried)]
+
+
+def side_answer(side, kind, rest, row):
+    """What a side's own call answers to what it's handed."""
+    if kind == WRITE:
+        return write(side, rest[0], row)
+    if kind == READ:
+        return read(side, rest[0], rest[1])
+    if kind == CLOSE:
+        return close(side, rest[0])
+    if kind == RESET:
+        return reset(side, rest[0])
+    if kind == TICK:
+        return tick(side, rest[0])
+    if kind == KEEP:
+        return keep(side, rest[0], rest[1])
+    if kind == DUE:
+        return due(side)
+    return told(side)
 
 
 def answer_to(link, call):
@@ -125,10 +175,12 @@ def answer_to(link, call):
         return meet(link, call.numbers[0], call.numbers[1], call.numbers[2])
     if call.kind == RUSH:
         return rush(link, call.numbers[0])
+    if call.kind in (SENT, BRING, DAMAGE, CUT):
+        return segment_answer(link, call)
     which = call.numbers[0]
     if which != LEFT and which != RIGHT:
         return [-1]
-    answer = side_answer(link.sides[which], call)
+    answer = side_answer(link.sides[which], call.kind, call.numbers[1:], call.row)
     collect(link, which)
     return answer + [len(link.carried)]
 
